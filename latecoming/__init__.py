@@ -1,0 +1,1 @@
+"""Latecoming: does a program notice that its messages come late?"""
