@@ -30,6 +30,10 @@ class Machine:
         )
 
 
+def has_bans(machine):
+    return any([_is_ban(rule) for rule in machine.rules])
+
+
 def caps(machine):
     """Returns a tuple with the cap of each clock."""
     greatest = [0] * len(machine.clocks)
@@ -46,47 +50,80 @@ def start(machine):
 
 def forbids(machine, configuration, item):
     """Tells whether a ban is the first that applies to the item."""
-    state, clocks = configuration
-    rule = _first_rule(machine, state, _clocks_at(machine, clocks, item), item)
-    return rule is not None and _is_ban(rule)
+    is_forbidden, _, _ = _heard(machine, caps(machine), configuration, item)
+    return is_forbidden
 
 
 def step(machine, configuration, item):
     """Returns the next configuration and a tuple of the (channel, signal) that are written."""
-    state, clocks = configuration
-    clocks = _clocks_at(machine, clocks, item)
-    rule = _first_rule(machine, state, clocks, item)
-    if rule is None or _is_ban(rule):
-        return (state, clocks), ()
-    return (rule[TARGET], _with_resets(clocks, rule[RESETS])), rule[SIGNALS]
+    _, after, signals = _heard(machine, caps(machine), configuration, item)
+    return after, signals
 
 
 def run(machine, items):
     """Returns the configuration after the items and a list with the signals of each channel."""
-    configuration = start(machine)
-    written = [[] for _ in machine.channels]
-    for item in items:
-        configuration, signals = step(machine, configuration, item)
-        for channel, signal in signals:
-            written[channel].append(signal)
-    return configuration, written
+    configuration, signals = Steps(machine).run(start(machine), items)
+    return configuration, [of_channel(signals, channel) for channel in range(len(machine.channels))]
 
 
 def permitted(machine, items):
     """Tells whether no item is forbidden where it comes."""
+    steps = Steps(machine)
     configuration = start(machine)
     for item in items:
-        if forbids(machine, configuration, item):
+        is_forbidden, configuration, _ = steps.hear(configuration, item)
+        if is_forbidden:
             return False
-        configuration, _ = step(machine, configuration, item)
     return True
 
 
-def _clocks_at(machine, clocks, item):
+def of_channel(signals, channel):
+    """Returns the signals that are for one channel, out of a list of (channel, signal)."""
+    return [signal for at, signal in signals if at == channel]
+
+
+class Steps:
+    """The steps of a machine, each worked out once: a search asks for the same ones again and again."""
+
+    def __init__(self, machine):
+        self.machine = machine
+        self.caps = caps(machine)
+        self.known = {}
+
+    def hear(self, configuration, item):
+        """Returns whether the item is forbidden, the next configuration, and the (channel, signal) written."""
+        if (configuration, item) not in self.known:
+            self.known[(configuration, item)] = _heard(self.machine, self.caps, configuration, item)
+        return self.known[(configuration, item)]
+
+    def forbids(self, configuration, item):
+        is_forbidden, _, _ = self.hear(configuration, item)
+        return is_forbidden
+
+    def run(self, configuration, items):
+        """Returns the configuration after the items and a list of the (channel, signal) written."""
+        written = []
+        for item in items:
+            _, configuration, signals = self.hear(configuration, item)
+            written.extend(signals)
+        return configuration, written
+
+
+def _heard(machine, greatest, configuration, item):
+    """Returns what Steps.hear does; greatest has the cap of each clock."""
+    state, clocks = configuration
+    clocks = _clocks_at(greatest, clocks, item)
+    rule = _first_rule(machine, state, clocks, item)
+    if rule is None or _is_ban(rule):
+        return rule is not None, (state, clocks), ()
+    return False, (rule[TARGET], _with_resets(clocks, rule[RESETS])), rule[SIGNALS]
+
+
+def _clocks_at(greatest, clocks, item):
     """Returns the clocks with which conditions are compared when the item is heard."""
     if item != "tick":
         return tuple(clocks)
-    return tuple([min(value + 1, cap) for value, cap in zip(clocks, caps(machine))])
+    return tuple([min(value + 1, cap) for value, cap in zip(clocks, greatest)])
 
 
 def _first_rule(machine, state, clocks, item):
