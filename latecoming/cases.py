@@ -20,7 +20,7 @@ class Case:
             raise InvalidCase("the program and the traffic hear the same names in the same order")
         if not _are_views(views, len(program.channels)):
             raise InvalidCase("there is one view for each channel: ordered, unordered or ignored")
-        if not _is_integer(quiet, LONGEST_QUIET):
+        if not is_count(quiet, LONGEST_QUIET):
             raise InvalidCase(f"the quiet time is an integer from 0 to {LONGEST_QUIET}")
         self.program = program
         self.views = tuple(views)
@@ -69,6 +69,16 @@ def extended(view, signals, pair, first, second):
     return difference(view, signals, [*had_first, *first], [*had_second, *second])
 
 
+def is_list(value):
+    """Tells whether the value is a list or a tuple: each may be passed in the place of the other."""
+    return isinstance(value, (list, tuple))
+
+
+def is_count(value, greatest):
+    """Tells whether the value is an integer from 0 to the greatest one."""
+    return isinstance(value, int) and not isinstance(value, bool) and 0 <= value <= greatest
+
+
 def _common_beginning(first, second):
     """Returns the length of the longest common prefix."""
     shorter = min(len(first), len(second))
@@ -87,23 +97,14 @@ def _excess(signals, first, second):
     return tuple(excess)
 
 
-def _is_list(value):
-    return isinstance(value, (list, tuple))
-
-
-def _is_integer(value, greatest):
-    """Tells whether the value is an integer from 0 to the greatest one."""
-    return isinstance(value, int) and not isinstance(value, bool) and 0 <= value <= greatest
-
-
 def _are_views(views, many):
-    return _is_list(views) and len(views) == many and all([view in VIEWS for view in views])
+    return is_list(views) and len(views) == many and all([view in VIEWS for view in views])
 
 
 def _is_lateness(late, many):
-    return _is_list(late) and len(late) == many and all([_is_integer(wait, GREATEST_LATENESS) for wait in late])
+    return is_list(late) and len(late) == many and all([is_count(wait, GREATEST_LATENESS) for wait in late])
 
 
 def _are_chosen(chosen, names):
     """Tells whether these are different ones of the names, in their order."""
-    return _is_list(chosen) and list(chosen) == [name for name in names if name in chosen]
+    return is_list(chosen) and list(chosen) == [name for name in names if name in chosen]

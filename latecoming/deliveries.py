@@ -1,7 +1,6 @@
 """Deliveries: how messages may come, event by event, and the scenes to which they lead."""
 
-from latecoming.cases import extended
-from latecoming.machines import Steps, of_channel, start
+from latecoming.courses import Course
 
 # How many copies of a message travel with each fate.
 COPIES = {"once": 1, "lost": 0, "twice": 2}
@@ -9,37 +8,27 @@ COPIES = {"once": 1, "lost": 0, "twice": 2}
 
 def first_scene(case):
     """Returns the scene of the empty delivery."""
-    begin = start(case.program)
-    differences = [((), ()) for _ in case.program.channels]
-    return start(case.traffic), (), begin, begin, tuple(differences)
+    return Course(case).beginning(())
 
 
 def possible_events(case, delays, scene):
     """Returns a list of the events that are possible in the scene, in their order."""
-    return Network(case, delays).events_in(_with_tuples(scene))
+    return Network(Course(case), delays).events_in(with_tuples(scene))
 
 
 def scene_after(case, delays, scene, event):
     """Returns the scene after a possible event."""
-    return Network(case, delays).scene_after(_with_tuples(scene), event)
+    return Network(Course(case), delays).scene_after(with_tuples(scene), event)
 
 
 def is_delivery(case, delays, events):
     """Tells whether each event is possible after those before it."""
-    if not isinstance(events, (list, tuple)):
-        return False
-    network = Network(case, delays)
-    scene = first_scene(case)
-    for event in events:
-        if not _is_plain(event) or tuple(event) not in network.events_in(scene):
-            return False
-        scene = network.scene_after(scene, event)
-    return True
+    return Network(Course(case), delays).scene_of(events) is not None
 
 
 def sequences(case, delays, events):
     """Returns a pair of lists, the sent and the received sequence of a delivery."""
-    network = Network(case, delays)
+    network = Network(Course(case), delays)
     sent, received = [], []
     for event in events:
         more_sent, more_received = network.items_of(event)
@@ -56,27 +45,34 @@ def is_complete(scene):
 
 def is_harmful(case, scene):
     """Tells whether some channel of a complete scene does not look the same after the quiet time."""
-    return has_harm(case, Steps(case.program), _with_tuples(scene))
+    return Course(case).has_harm(with_tuples(scene))
 
 
-def has_harm(case, program, scene):
-    """Tells what is_harmful tells; program has the steps of the case's program."""
-    _, _, sent_side, received_side, differences = scene
-    quiet = ["tick"] * case.quiet
-    _, first = program.run(sent_side, quiet)
-    _, second = program.run(received_side, quiet)
-    return any([pair != ((), ()) for pair in _differences_after(case, differences, first, second)])
+def fates_of(delays, name):
+    """Returns the fates that a message of this name may have, in their order."""
+    fates = ["once"]
+    if name in delays.lost:
+        fates.append("lost")
+    if name in delays.twice:
+        fates.append("twice")
+    return fates
 
 
 class Network:
-    """A case with its delays: what may happen in a scene, and where it leads."""
+    """A course with delays: what may happen in a scene, and where it leads."""
 
-    def __init__(self, case, delays):
-        self.case = case
-        self.names = case.program.names
+    def __init__(self, course, delays):
+        self.course = course
+        self.names = course.names
         self.delays = delays
-        self.program = Steps(case.program)
-        self.traffic = Steps(case.traffic)
+
+    def first_scene(self):
+        return self.course.beginning(())
+
+    def waiting_in(self, scene):
+        """Returns the messages in transit."""
+        _, transit, _, _, _ = scene
+        return transit
 
     def events_in(self, scene):
         """Returns a list of the events that are possible in the scene, in their order."""
@@ -86,8 +82,7 @@ class Network:
             events.append(("stopped",))
         if self.may_tick(sender, transit):
             events.append(("tick",))
-        if sender is not None:
-            events.extend(self.sendings(sender))
+        events.extend(self.sendings(sender))
         return events
 
     def may_tick(self, sender, transit):
@@ -95,47 +90,35 @@ class Network:
             return False
         if sender is None:
             return len(transit) > 0
-        return not self.traffic.forbids(sender, "tick")
+        return self.course.may_send(sender, "tick")
 
     def sendings(self, sender):
         """Returns the events with which the sender may send a message."""
         events = []
         for name in self.names:
-            if not self.traffic.forbids(sender, name):
-                events.extend([("sent", name, fate) for fate in self.fates(name)])
+            if self.course.may_send(sender, name):
+                events.extend([("sent", name, fate) for fate in fates_of(self.delays, name)])
         return events
-
-    def fates(self, name):
-        fates = ["once"]
-        if name in self.delays.lost:
-            fates.append("lost")
-        if name in self.delays.twice:
-            fates.append("twice")
-        return fates
 
     def scene_after(self, scene, event):
         """Returns the scene after a possible event."""
-        _, _, sent_side, received_side, differences = scene
-        sender = self.sender_after(scene, event)
-        transit = self.transit_after(scene, event)
-        sent, received = self.items_of(event)
-        sent_side, first = self.program.run(sent_side, sent)
-        received_side, second = self.program.run(received_side, received)
-        differences = _differences_after(self.case, differences, first, second)
-        return sender, transit, sent_side, received_side, differences
-
-    def sender_after(self, scene, event):
-        """Returns the configuration of the traffic machine after the event, or None."""
-        sender, _, _, _, _ = scene
-        if sender is None or event[0] == "stopped":
-            return None
-        sent, _ = self.items_of(event)
-        sender, _ = self.traffic.run(sender, sent)
-        return sender
-
-    def transit_after(self, scene, event):
-        """Returns the messages that are in transit after the event."""
         _, transit, _, _, _ = scene
+        sent, received = self.items_of(event)
+        return self.course.follow(scene, event, self.transit_after(transit, event), sent, received)
+
+    def scene_of(self, events):
+        """Returns the scene to which the events lead, or None if they are no delivery."""
+        if not isinstance(events, (list, tuple)):
+            return None
+        scene = self.first_scene()
+        for event in events:
+            if not _is_plain(event) or tuple(event) not in self.events_in(scene):
+                return None
+            scene = self.scene_after(scene, event)
+        return scene
+
+    def transit_after(self, transit, event):
+        """Returns the messages that are in transit after the event."""
         if event[0] == "tick":
             return tuple([(index, wait - 1) for index, wait in transit])
         if event[0] == "came":
@@ -162,19 +145,10 @@ class Network:
         return self.delays.late[self.names.index(name)] == 0
 
 
-def _differences_after(case, differences, first, second):
-    """Returns the differences after more (channel, signal) were written on both sides."""
-    after = []
-    for channel, (_, signals) in enumerate(case.program.channels):
-        more_first, more_second = of_channel(first, channel), of_channel(second, channel)
-        after.append(extended(case.views[channel], signals, differences[channel], more_first, more_second))
-    return tuple(after)
-
-
-def _with_tuples(value):
+def with_tuples(value):
     """Returns the value with tuples in the place of its lists."""
     if isinstance(value, (list, tuple)):
-        return tuple([_with_tuples(part) for part in value])
+        return tuple([with_tuples(part) for part in value])
     return value
 
 

@@ -47,6 +47,47 @@ def read_events(text):
     return events
 
 
+def round_of(letter, ticks):
+    """Returns the states and rules of a machine that returns to its start after so many ticks."""
+    lengths = [60] * (ticks // 60) + [ticks % 60] * (ticks % 60 > 0)
+    states, rules = "", ""
+    for at, length in enumerate(lengths):
+        states += f"\nstate {letter}{at}"
+        rules += f"\nrule {letter}{at} tick {letter}{(at + 1) % len(lengths)} when t from {length} reset t"
+    return states, rules
+
+
+def turning_case(program_ticks, traffic_ticks):
+    """Returns a case in which nothing is ever sent, and both machines turn round."""
+    states, rules = round_of("p", program_ticks)
+    program = "hears a\nclocks t" + states + rules
+    states, rules = round_of("x", traffic_ticks)
+    bans = "".join(f"\nban x{at} a" for at in range(states.count("state")))
+    return case_of(program, "hears a\nclocks t" + states + rules + bans)
+
+
+def waiting_traffic(ticks):
+    """Returns the text of traffic in which an a may be sent only after so many ticks, and no tick after it."""
+    states, rules = round_of("x", ticks)
+    many = states.count("state")
+    end = rules.rindex("tick x0") + len("tick x")
+    rules = rules[:end] + str(many) + rules[end + 1:]
+    bans = "".join(f"\nban x{at} a" for at in range(many)) + f"\nban x{many} tick"
+    return f"hears a\nclocks t{states}\nstate x{many}{rules}{bans}"
+
+
+def waiting_case(ticks):
+    """Returns a case in which each message shows; see waiting_traffic."""
+    return case_of("hears a\nchannel c x\nstate s\nrule s a s emit c x", waiting_traffic(ticks), "ordered")
+
+
+def row_of(name, many):
+    """Returns the text of traffic in which the one name is sent so many times at most."""
+    states = "".join(f"\nstate x{at}" for at in range(many + 1))
+    rules = "".join(f"\nrule x{at} {name} x{at + 1}" for at in range(many))
+    return f"hears {name}{states}{rules}\nban x{many} {name}"
+
+
 def chosen_machine(chance, names, is_traffic):
     """Returns a machine in which everything that a machine may have occurs at times."""
     clocks = ("t", "u", "v")[:chance.randint(0, 3)]
